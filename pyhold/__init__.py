@@ -1,0 +1,1 @@
+"""An interpreter whose runs can be stopped, written down, moved and continued."""

@@ -1,0 +1,47 @@
+"""The characters, the bounds, and the objects with which every run begins."""
+
+CHARACTERS = "\n !\"#$&'()*+,-./0123456789:;<=>?@ABCDEFGHIJKLMNOPQRSTUVWXYZ[\\]^_`abcdefghijklmnopqrstuvwxyz{|}~"
+
+# The first integer, without its sign, that is too large.
+INTEGER_END = 1 << 256
+
+# No text of a run has more characters, no tuple, list or dict more entries,
+# and no key more values in it.
+MOST_ENTRIES = 1000
+
+CLASSES = (
+    "Exception",
+    "ArithmeticError",
+    "ZeroDivisionError",
+    "OverflowError",
+    "LookupError",
+    "IndexError",
+    "KeyError",
+    "NameError",
+    "AttributeError",
+    "TypeError",
+    "ValueError",
+    "StopIteration",
+    "RuntimeError",
+    "RecursionError",
+    "MemoryError",
+    "HostError",
+)
+
+BASES = (-1, 1, 2, 2, 1, 5, 5, 1, 1, 1, 1, 1, 1, 13, 1, 1)
+
+BUILT = (
+    "print", "len", "range", "repr", "str", "int", "list", "tuple", "dict",
+    "iter", "next", "isinstance", "abs",
+)
+
+
+def start_heap(hosts):
+    """The objects at the beginning of a run whose host has these functions."""
+    variables = [(name, ("ref", at + 1)) for at, name in enumerate(CLASSES)]
+    variables.extend([(name, ("built", name)) for name in BUILT])
+    variables.extend([(name, ("host", name)) for name in hosts])
+    heap = [("scope", tuple(variables), (), (), -1, False)]
+    for name, base in zip(CLASSES, BASES):
+        heap.append(("class", name, base, ()))
+    return heap
