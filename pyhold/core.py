@@ -30,6 +30,10 @@ CLASSES = (
 
 BASES = (-1, 1, 2, 2, 1, 5, 5, 1, 1, 1, 1, 1, 1, 13, 1, 1)
 
+# The numbers of classes.
+ZERO_DIVISION_ERROR = 3
+TYPE_ERROR = 10
+
 BUILT = (
     "print", "len", "range", "repr", "str", "int", "list", "tuple", "dict",
     "iter", "next", "isinstance", "abs",

@@ -3,30 +3,16 @@
 from pyhold.trees import NOTHING, blocks, with_blocks
 from pyhold.words import quoted
 
-# How strongly the parts of an expression hold together, in the order of t5.
+# How strongly the parts of an expression hold together, in the order of t5. What
+# stands neither here nor below is a PRIMARY.
 CHOICE = 0
 EITHER = 1
-BOTH = 2
-NEGATION = 3
 COMPARISON = 4
 SUM = 5
 TERM = 6
-MINUS = 7
 PRIMARY = 8
-ATOM = 9
 
-STRENGTHS = {
-    "choice": CHOICE,
-    "or": EITHER,
-    "and": BOTH,
-    "not": NEGATION,
-    "compare": COMPARISON,
-    "neg": MINUS,
-    "attr": PRIMARY,
-    "call": PRIMARY,
-    "item": PRIMARY,
-    "part": PRIMARY,
-}
+STRENGTHS = {"choice": 0, "or": 1, "and": 2, "not": 3, "compare": 4, "neg": 7}
 
 COMPARISON_WORDS = {"notin": "not in", "isnot": "is not"}
 
@@ -199,7 +185,7 @@ def _text_within(tree, least):
 def _strength(tree):
     if tree[0] == "bin":
         return SUM if tree[1] in ("+", "-") else TERM
-    return STRENGTHS.get(tree[0], ATOM)
+    return STRENGTHS.get(tree[0], PRIMARY)
 
 
 def _const_text(tree):

@@ -29,6 +29,10 @@ class Errors(unittest.TestCase):
     def test_bad_numbers(self):
         self.assertEqual(BadNumbers(7).place, 7)
 
+    def test_messages(self):
+        self.assertEqual(str(Fault(3, "invalid syntax")), "line 3: invalid syntax")
+        self.assertEqual(str(BadNumbers(7)), "place 7")
+
 
 if __name__ == "__main__":
     unittest.main()

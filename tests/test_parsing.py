@@ -1,7 +1,7 @@
 import unittest
 
 from pyhold.parsing import parse
-from tests.helpers import NONE, TRUE, fault_of, name, num
+from tests.helpers import NONE, TRUE, fault_of, name, num, text
 
 A, B, C, D = name("a"), name("b"), name("c"), name("d")
 PASS2 = (("pass", 2),)
@@ -29,6 +29,14 @@ class Programs(unittest.TestCase):
     def test_lines_are_those_of_the_first_token(self):
         self.assertEqual(parse("(a,\nb)\nc"), (("do", 1, ("tuple", (A, B))), ("do", 3, C)))
         self.assertEqual(parse("\n\n(\na)"), (("do", 3, A),))
+
+    def test_texts_are_no_words_and_no_signs(self):
+        for word in ("pass", "if", "return", "None", "not", "global", "(", "-", "in", "elif"):
+            self.assertEqual(parse("'" + word + "'"), (("do", 1, text(word)),))
+        for word in ("in", "+", ".", "=", ",", "or", "if", "(", "**", "is"):
+            self.assertEqual(fault_of(parse, "a '" + word + "' b"), (1, "invalid syntax"), word)
+        self.assertEqual(fault_of(parse, "a('b' '=' c)"), (1, "invalid syntax"))
+        self.assertEqual(fault_of(parse, "a(b '=' c)"), (1, "invalid syntax"))
 
     def test_faults_of_words(self):
         self.assertEqual(fault_of(parse, "a b\n1a"), (2, "invalid integer"))
@@ -358,6 +366,15 @@ class Depth(unittest.TestCase):
             self.assertEqual(
                 fault_of(parse, self.nested(head, 12, "if a:\n" + " " * 13 + "pass")),
                 (14, "too many blocks"), head)
+
+    def test_later_statements_of_a_block(self):
+        def nested(many):
+            rows = []
+            for k in range(many):
+                rows += [" " * k + "pass", " " * k + "if a:"]
+            return "\n".join(rows + [" " * many + "pass"] * 2)
+        self.assertIsNone(fault_of(parse, nested(12)))
+        self.assertEqual(fault_of(parse, nested(13)), (27, "too many blocks"))
 
     def test_try(self):
         for tail in ("except:\n", "finally:\n"):
