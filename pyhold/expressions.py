@@ -105,7 +105,7 @@ def _comparison(reader):
 
 
 def _comparing(reader):
-    """The op of the comparison that comes, or ""."""
+    """The op of the comparison that comes, or an empty string."""
     for sign in COMPARISONS:
         if reader.skip(sign):
             return sign
