@@ -1,7 +1,7 @@
 """Arithmetic of integers, and joining and repeating of texts, tuples and lists."""
 
 from pyhold.core import INTEGER_END, MOST_ENTRIES, TYPE_ERROR, ZERO_DIVISION_ERROR
-from pyhold.values import INTEGER_TOO_LARGE, TOO_LARGE, is_number, kind_name, row_kind, row_of, unsupported
+from pyhold.values import INTEGER_TOO_LARGE, TOO_LARGE, is_number, kind_name, made_row, row_kind, row_of, unsupported
 
 
 def binary(heap, op, a, b):
@@ -47,21 +47,13 @@ def _joined(heap, a, b):
     other = row_of(heap, b)
     if len(one) + len(other) > MOST_ENTRIES:
         return TOO_LARGE
-    return _made(heap, row_kind(heap, a), one + other)
+    return made_row(heap, row_kind(heap, a), one + other)
 
 
 def _repeated(heap, a, many):
     row = row_of(heap, a)
     if many < 1 or len(row) == 0:
-        return _made(heap, row_kind(heap, a), row[:0])
+        return made_row(heap, row_kind(heap, a), row[:0])
     if len(row) * many > MOST_ENTRIES:
         return TOO_LARGE
-    return _made(heap, row_kind(heap, a), row * many)
-
-
-def _made(heap, kind, row):
-    """The outcome that is a text, or a new object with these items."""
-    if kind == "text":
-        return ("ok", ("text", row))
-    heap.append((kind, row))
-    return ("ok", ("ref", len(heap) - 1))
+    return made_row(heap, row_kind(heap, a), row * many)

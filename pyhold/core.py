@@ -31,8 +31,18 @@ CLASSES = (
 BASES = (-1, 1, 2, 2, 1, 5, 5, 1, 1, 1, 1, 1, 1, 13, 1, 1)
 
 # The numbers of classes.
+EXCEPTION = 1
 ZERO_DIVISION_ERROR = 3
+OVERFLOW_ERROR = 4
+INDEX_ERROR = 6
+KEY_ERROR = 7
+NAME_ERROR = 8
+ATTRIBUTE_ERROR = 9
 TYPE_ERROR = 10
+VALUE_ERROR = 11
+STOP_ITERATION = 12
+RUNTIME_ERROR = 13
+RECURSION_ERROR = 14
 
 BUILT = (
     "print", "len", "range", "repr", "str", "int", "list", "tuple", "dict",

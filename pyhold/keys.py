@@ -33,6 +33,14 @@ def find_key(heap, entries, key):
     return -1
 
 
+def key_place(heap, entries, key):
+    """The outcome that is the place of the entry with this key, or -1."""
+    outcome = key_text(heap, key)
+    if outcome[0] == "raise":
+        return outcome
+    return ("ok", find_key(heap, entries, key))
+
+
 def _word(heap, value):
     """What stands for one value in the text of a key, or "" if it can be none.
 

@@ -24,6 +24,8 @@ OBJECT_KINDS = {
     "gen": "generator",
 }
 
+DONE = ("ok", ("none",))
+
 # Refusals: the second item is the number of the class that is raised.
 INTEGER_TOO_LARGE = ("raise", 4, "integer too large")
 TOO_LARGE = ("raise", 15, "too large")
@@ -96,6 +98,14 @@ def row_of(heap, value):
     if value[0] == "text":
         return value[1]
     return heap[value[1]][1]
+
+
+def made_row(heap, kind, row):
+    """The outcome that is a text, or a new tuple or list with these items."""
+    if kind == "text":
+        return ("ok", ("text", row))
+    heap.append((kind, row))
+    return ("ok", ("ref", len(heap) - 1))
 
 
 def same_leaf(a, b):

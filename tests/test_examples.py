@@ -3,12 +3,15 @@
 import unittest
 
 from pyhold.arithmetic import binary, negated
+from pyhold.binding import bind
 from pyhold.comparing import compare, equal, is_key
 from pyhold.compiling import compile_text
 from pyhold.errors import Fault
+from pyhold.items import drop_item, item, part, put_item
 from pyhold.parsing import level, parse
 from pyhold.printing import shown, without_lines
 from pyhold.scopes import bound, lower
+from pyhold.showing import show, words
 from pyhold.values import kind_name, length, truth
 from pyhold.words import quoted, split
 from tests.helpers import fault_of
@@ -64,6 +67,33 @@ class Examples(unittest.TestCase):
             (True, ("ok", ("bool", True))))
         self.assertEqual(
             is_key([("list", ())], ("ref", 0)), ("raise", 10, "not a key: list"))
+
+    def test_items(self):
+        heap = [("dict", ((("int", 1), ("text", "a")),))]
+        self.assertEqual(
+            (put_item(heap, ("ref", 0), ("bool", True), ("text", "b")), heap),
+            (("ok", ("none",)), [("dict", ((("int", 1), ("text", "b")),))]))
+        self.assertEqual(
+            (item([], ("span", 3, 9), ("int", -1)), part([], ("text", "abc"), ("int", -2), ("none",))),
+            (("ok", ("int", 8)), ("ok", ("text", "bc"))))
+        heap = [("list", (("int", 1), ("int", 2)))]
+        self.assertEqual(
+            (drop_item(heap, ("ref", 0), ("int", 5)), heap),
+            (("raise", 6, "index out of range"), [("list", (("int", 1), ("int", 2)))]))
+
+    def test_showing(self):
+        self.assertEqual(
+            show([("list", (("ref", 0), ("text", "it's")))], ("ref", 0)),
+            ("ok", ("text", '[[...], "it\'s"]')))
+        self.assertEqual(words([], ("text", "a")), ("ok", ("text", "a")))
+
+    def test_binding(self):
+        self.assertEqual(
+            bind("f", ("a", "b"), (("b", ("int", 2)),), (("int", 1),), ()),
+            ("ok", (("a", ("int", 1)), ("b", ("int", 2)))))
+        self.assertEqual(
+            bind("f", ("a",), (), (), (("b", ("none",)),)),
+            ("raise", 10, "f() has no parameter b"))
 
     def test_points(self):
         a, b, c = ("name", "a"), ("name", "b"), ("name", "c")

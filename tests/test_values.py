@@ -2,25 +2,7 @@ import unittest
 
 from pyhold.core import start_heap
 from pyhold.values import kind_name, length, truth
-
-NONE = ("none",)
-EDGE = 2 ** 256
-
-
-def heap_of_all():
-    """One object of each kind, with the kind's name."""
-    return [
-        (("list", ()), "list"),
-        (("tuple", ()), "tuple"),
-        (("dict", ()), "dict"),
-        (("scope", (), (), (), -1, False), "scope"),
-        (("func", "f", (), (), (), ((), (), False), 3), "function"),
-        (("class", "Box", -1, ()), "class"),
-        (("inst", 5, ()), "Box"),
-        (("bound", ("ref", 6), ("ref", 4)), "method"),
-        (("iter", NONE, 0, -1), "iterator"),
-        (("gen", "f", "over", ()), "generator"),
-    ]
+from tests.heaps import EDGE, NONE, heap_of_all
 
 
 class KindName(unittest.TestCase):
