@@ -9,6 +9,12 @@ INTEGER_END = 1 << 256
 # and no key more values in it.
 MOST_ENTRIES = 1000
 
+# How many calls may be active, how long a line of classes may be, and how many
+# characters a run may put out.
+MOST_CALLS = 60
+MOST_BASES = 60
+MOST_OUTPUT = 100000
+
 CLASSES = (
     "Exception",
     "ArithmeticError",

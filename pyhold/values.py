@@ -83,6 +83,13 @@ def object_kind(heap, value):
     return heap[value[1]][0]
 
 
+def sort_of(heap, value):
+    """The kind of a value, or of the object that it refers to."""
+    if value[0] == "ref":
+        return heap[value[1]][0]
+    return value[0]
+
+
 def row_kind(heap, value):
     """The kind of a text, a tuple or a list, or "" for anything else."""
     if value[0] == "text":

@@ -74,3 +74,40 @@ def nested(kind, depth):
         else:
             heap.append((kind, (("ref", k),)))
     return heap
+
+
+def put(heap, data):
+    """The value of Python's data; their objects come to the end of the heap."""
+    if data is None:
+        return NONE
+    if isinstance(data, bool):
+        return ("bool", data)
+    if isinstance(data, int):
+        return ("int", data)
+    if isinstance(data, str):
+        return ("text", data)
+    if isinstance(data, range):
+        return ("span", data.start, data.stop)
+    if isinstance(data, dict):
+        entries = tuple((put(heap, key), put(heap, worth)) for key, worth in data.items())
+        heap.append(("dict", entries))
+    else:
+        kind = type(data).__name__
+        heap.append((kind, tuple(put(heap, each) for each in data)))
+    return ("ref", len(heap) - 1)
+
+
+def take(heap, value):
+    """Python's data of a value."""
+    if value[0] == "span":
+        return range(value[1], value[2])
+    if value[0] == "none":
+        return None
+    if value[0] != "ref":
+        kinds = {"bool": bool, "int": int, "text": str}
+        assert type(value[1]) is kinds[value[0]], value
+        return value[1]
+    kind, parts = heap[value[1]]
+    if kind == "dict":
+        return {take(heap, key): take(heap, worth) for key, worth in parts}
+    return {"list": list, "tuple": tuple}[kind](take(heap, part) for part in parts)

@@ -18,7 +18,7 @@ METHODS = set(
     "append clear copy count endswith extend find get index insert isalnum isalpha isdigit islower "
     "isspace isupper items join keys ljust lower lstrip partition pop remove replace reverse rfind "
     "rjust rpartition rsplit rstrip setdefault split splitlines startswith strip update upper values "
-    "zfill bit_length add discard".split())
+    "zfill bit_length removeprefix add discard".split())
 
 BARRED = set(
     "register mro elements open input law version_info with_traceback add_note attrgetter "
