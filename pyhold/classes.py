@@ -23,6 +23,11 @@ def is_kind(heap, value, k):
     return object_kind(heap, value) == "inst" and k in class_line(heap, heap[value[1]][1])
 
 
+def is_exception_class(heap, value):
+    """Tells if a value is a class whose instances are exceptions."""
+    return object_kind(heap, value) == "class" and EXCEPTION in class_line(heap, value[1])
+
+
 def member(heap, k, x):
     """The member of a class, which may be one of its bases', or () if there is none."""
     for each in class_line(heap, k):

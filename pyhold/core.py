@@ -36,6 +36,9 @@ CLASSES = (
 
 BASES = (-1, 1, 2, 2, 1, 5, 5, 1, 1, 1, 1, 1, 1, 13, 1, 1)
 
+# How many objects every run has: the scope of the module and the classes.
+FIRST_OBJECTS = 17
+
 # The numbers of classes.
 EXCEPTION = 1
 ZERO_DIVISION_ERROR = 3
@@ -49,6 +52,7 @@ VALUE_ERROR = 11
 STOP_ITERATION = 12
 RUNTIME_ERROR = 13
 RECURSION_ERROR = 14
+HOST_ERROR = 16
 
 BUILT = (
     "print", "len", "range", "repr", "str", "int", "list", "tuple", "dict",

@@ -1,9 +1,9 @@
 """Lists and tuples of what an iterator, a generator or an instance gives."""
 
-from pyhold.core import MOST_ENTRIES, STOP_ITERATION
-from pyhold.classes import is_kind
+from pyhold.core import MOST_ENTRIES
 from pyhold.faults import settle
 from pyhold.generators import advance, iterate
+from pyhold.stepping import has_stopped
 from pyhold.values import TOO_LARGE, made_row
 
 
@@ -27,7 +27,7 @@ def meet_gather(machine, frame):
         settle(machine, TOO_LARGE)
     elif control[0] == "value":
         _ask(machine, kind, it, got + (control[1],))
-    elif control[1][0] == "raise" and is_kind(machine.heap, control[1][1], STOP_ITERATION):
+    elif has_stopped(machine):
         settle(machine, made_row(machine.heap, kind, got))
 
 

@@ -3,12 +3,10 @@
 from pyhold.classes import method
 from pyhold.core import (
     MOST_CALLS, RECURSION_ERROR, RUNTIME_ERROR, STOP_ITERATION, TYPE_ERROR, VALUE_ERROR)
-from pyhold.faults import fail
-from pyhold.items import element
+from pyhold.faults import fail, settle
+from pyhold.iterators import new_iterator, next_element
 from pyhold.own import own_iter
-from pyhold.values import kind_name, object_kind, row_kind
-
-NOTHING = ("none",)
+from pyhold.values import NOTHING, kind_name, object_kind
 
 
 def resume(machine, g, how, value):
@@ -55,12 +53,10 @@ def give(machine, value):
 
 def iterate(machine, value):
     """Begins iter(value)."""
-    kind = object_kind(machine.heap, value)
-    if kind == "dict":
-        _new_iterator(machine, value, len(machine.heap[value[1]][1]))
-    elif value[0] == "span" or row_kind(machine.heap, value) != "":
-        _new_iterator(machine, value, -1)
-    elif kind in ("iter", "gen"):
+    made = new_iterator(machine.heap, value)
+    if made != ():
+        machine.control = ("value", made)
+    elif object_kind(machine.heap, value) in ("iter", "gen"):
         machine.control = ("value", value)
     elif not own_iter(machine, value):
         if method(machine.heap, value, "op_next") == ():
@@ -74,7 +70,7 @@ def advance(machine, it):
     kind = object_kind(machine.heap, it)
     function = method(machine.heap, it, "op_next")
     if kind == "iter":
-        _advance_iterator(machine, it[1])
+        settle(machine, next_element(machine.heap, it[1]))
     elif kind == "gen":
         machine.control = ("resume", it[1], "next", NOTHING)
     elif function != ():
@@ -89,39 +85,3 @@ def _first_control(how, value):
     if how == "send":
         return ("value", value)
     return ("value", NOTHING)
-
-
-def _new_iterator(machine, value, size):
-    machine.heap.append(("iter", value, 0, size))
-    machine.control = ("value", ("ref", len(machine.heap) - 1))
-
-
-def _advance_iterator(machine, k):
-    _, what, place, size = machine.heap[k]
-    many = _many(machine.heap, what)
-    if object_kind(machine.heap, what) == "dict" and many != size:
-        fail(machine, RUNTIME_ERROR, "dict changed")
-    elif place < many:
-        machine.heap[k] = ("iter", what, place + 1, size)
-        machine.control = ("value", _at(machine.heap, what, place))
-    else:
-        machine.heap[k] = ("iter", NOTHING, 0, -1)
-        fail(machine, STOP_ITERATION, "")
-
-
-def _many(heap, what):
-    """How many elements an iterator goes over."""
-    if what[0] == "none":
-        return 0
-    if what[0] == "span":
-        return what[2] - what[1]
-    if what[0] == "text":
-        return len(what[1])
-    return len(heap[what[1]][1])
-
-
-def _at(heap, what, place):
-    found = element(heap, what, place)
-    if object_kind(heap, what) == "dict":
-        return found[0]
-    return found

@@ -1,6 +1,6 @@
 """Items and slices."""
 
-from pyhold.core import INDEX_ERROR, KEY_ERROR, MOST_ENTRIES, TYPE_ERROR
+from pyhold.core import INDEX_ERROR, KEY_ERROR, MOST_ENTRIES, TYPE_ERROR, VALUE_ERROR
 from pyhold.keys import key_place
 from pyhold.showing import show
 from pyhold.values import DONE, TOO_LARGE, is_number, kind_name, made_row, object_kind, row_kind, row_of
@@ -101,6 +101,19 @@ def entry_place(heap, entries, key):
     return outcome
 
 
+def with_entry(heap, entries, key, value):
+    """The outcome that is the entries of a dict with a value for a key, which may be new."""
+    outcome = key_place(heap, entries, key)
+    if outcome[0] == "raise":
+        return outcome
+    at = outcome[1]
+    if at >= 0:
+        return ("ok", entries[:at] + ((entries[at][0], value),) + entries[at + 1:])
+    if len(entries) >= MOST_ENTRIES:
+        return TOO_LARGE
+    return ("ok", entries + ((key, value),))
+
+
 def missing_key(heap, key):
     """The refusal of a key that is not there."""
     outcome = show(heap, key)
@@ -118,6 +131,15 @@ def element(heap, a, place):
     return heap[a[1]][1][place]
 
 
+def unpacked(heap, a, many):
+    """The outcome that is the items of a text, tuple, list or span, which must be so many."""
+    if a[0] != "span" and row_kind(heap, a) == "":
+        return ("raise", TYPE_ERROR, "not iterable")
+    if _size(heap, a) != many:
+        return ("raise", VALUE_ERROR, "wrong number of values")
+    return ("ok", tuple([element(heap, a, at) for at in range(many)]))
+
+
 def _size(heap, a):
     if a[0] == "span":
         return a[2] - a[1]
@@ -125,17 +147,10 @@ def _size(heap, a):
 
 
 def _put_entry(heap, a, key, value):
-    entries = heap[a[1]][1]
-    outcome = key_place(heap, entries, key)
+    outcome = with_entry(heap, heap[a[1]][1], key, value)
     if outcome[0] == "raise":
         return outcome
-    at = outcome[1]
-    if at >= 0:
-        heap[a[1]] = ("dict", entries[:at] + ((entries[at][0], value),) + entries[at + 1:])
-    elif len(entries) >= MOST_ENTRIES:
-        return TOO_LARGE
-    else:
-        heap[a[1]] = ("dict", entries + ((key, value),))
+    heap[a[1]] = ("dict", outcome[1])
     return DONE
 
 

@@ -1,10 +1,10 @@
 """The output of a run."""
 
-from pyhold.core import MOST_ENTRIES, MOST_OUTPUT
 from pyhold.faults import settle
 from pyhold.own import own_text
 from pyhold.showing import words
-from pyhold.values import DONE, TOO_LARGE
+from pyhold.telling import longer_line, longer_output
+from pyhold.values import DONE
 
 
 def print_values(machine, told, values):
@@ -15,12 +15,12 @@ def print_values(machine, told, values):
             # The call that was begun gives its text to the frame want above this one.
             machine.frames.insert(1, ("print", ("text", told), rest))
             return
-        outcome = _longer(told, words(machine.heap, value), rest)
+        outcome = longer_line(told, words(machine.heap, value), rest != ())
         if outcome[0] == "raise":
             settle(machine, outcome)
             return
         told = outcome[1]
-    settle(machine, _put_out(machine, told + "\n"))
+    _put_out(machine, told)
 
 
 def meet_print(machine, frame):
@@ -28,27 +28,17 @@ def meet_print(machine, frame):
     _, told, rest = frame
     if machine.control[0] != "value":
         return
-    outcome = _longer(told[1], ("ok", machine.control[1]), rest)
+    outcome = longer_line(told[1], ("ok", machine.control[1]), rest != ())
     if outcome[0] == "raise":
         settle(machine, outcome)
     else:
         print_values(machine, outcome[1], rest)
 
 
-def _longer(told, outcome, rest):
-    """The outcome that is the line with one more text, if that is the outcome of showing it."""
-    if outcome[0] == "raise":
-        return outcome
-    line = told + outcome[1][1]
-    if rest:
-        line += " "
-    if len(line) > MOST_ENTRIES:
-        return TOO_LARGE
-    return ("ok", line)
-
-
 def _put_out(machine, line):
-    if len(machine.out) + len(line) > MOST_OUTPUT:
-        return TOO_LARGE
-    machine.out = machine.out + line
-    return DONE
+    outcome = longer_output(machine.out, line)
+    if outcome[0] == "raise":
+        settle(machine, outcome)
+    else:
+        machine.out = outcome[1]
+        settle(machine, DONE)

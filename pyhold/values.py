@@ -24,7 +24,10 @@ OBJECT_KINDS = {
     "gen": "generator",
 }
 
-DONE = ("ok", ("none",))
+NOTHING = ("none",)
+
+# The outcome of what has no value of its own.
+DONE = ("ok", NOTHING)
 
 # Refusals: the second item is the number of the class that is raised.
 INTEGER_TOO_LARGE = ("raise", 4, "integer too large")

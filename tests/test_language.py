@@ -18,7 +18,7 @@ METHODS = set(
     "append clear copy count endswith extend find get index insert isalnum isalpha isdigit islower "
     "isspace isupper items join keys ljust lower lstrip partition pop remove replace reverse rfind "
     "rjust rpartition rsplit rstrip setdefault split splitlines startswith strip update upper values "
-    "zfill bit_length removeprefix add discard".split())
+    "zfill bit_length removeprefix isascii add discard".split())
 
 BARRED = set(
     "register mro elements open input law version_info with_traceback add_note attrgetter "
@@ -135,7 +135,8 @@ class Rules(unittest.TestCase):
     def test_functions(self):
         for place, node in self.each(ast.FunctionDef):
             self.assertLessEqual(node.end_lineno - node.lineno + 1, 40, place)
-            self.assertEqual(node.decorator_list, [], place)
+            for decorator in node.decorator_list:
+                self.assertEqual(ast.unparse(decorator), "property", place)
             self.assertIsNone(node.args.vararg, place)
             self.assertIsNone(node.args.kwarg, place)
             if node.name.startswith("__"):
@@ -192,7 +193,7 @@ class Rules(unittest.TestCase):
                     known |= {alias.name for alias in node.names}
             for node in ast.walk(tree):
                 if isinstance(node, ast.Name) and isinstance(node.ctx, ast.Load):
-                    if node.id != "super":
+                    if node.id not in ("super", "property"):
                         self.assertIn(node.id, known, (name, node.lineno))
                     self.assertNotEqual(node.id, "_", (name, node.lineno))
 
