@@ -57,6 +57,13 @@ def quoted(text):
     return "\"" + escaped + "\""
 
 
+def is_name(word):
+    """Tells if a string is a name of a program."""
+    if word == "" or word in KEYWORDS or len(word) > MOST_IN_NAME or not word.isascii():
+        return False
+    return not word[0].isdigit() and _word_end(word, 0) == len(word)
+
+
 def _check_characters(text):
     if len(text) > MOST_CHARACTERS:
         raise Fault(1, "text too long")
