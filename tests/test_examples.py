@@ -4,12 +4,18 @@ import unittest
 
 from pyhold.arithmetic import binary, negated
 from pyhold.binding import bind
+from pyhold.coding import write_count, write_integer, write_object, write_string, write_tree, write_value
 from pyhold.comparing import compare, equal, is_key
 from pyhold.compiling import compile_text
-from pyhold.errors import Fault
+from pyhold.data import put_data
+from pyhold.decoding import read_count, read_value
+from pyhold.errors import BadNumbers, BadState, Fault
 from pyhold.items import drop_item, item, part, put_item
+from pyhold.meaning import has_yield, run_plain
 from pyhold.parsing import level, parse
 from pyhold.printing import shown, without_lines
+from pyhold.reach import object_references
+from pyhold.runs import begin
 from pyhold.scopes import bound, lower
 from pyhold.showing import show, words
 from pyhold.values import kind_name, length, truth
@@ -94,6 +100,52 @@ class Examples(unittest.TestCase):
         self.assertEqual(
             bind("f", ("a",), (), (), (("b", ("none",)),)),
             ("raise", 10, "f() has no parameter b"))
+
+    def test_meaning(self):
+        outcome, _, out, used = run_plain(compile_text("a = 1 + 2\nprint(a)\n"), (), (), 150, 1000)
+        self.assertEqual((outcome, out, used), (("done",), "3\n", 0))
+        outcome, _, _, _ = run_plain(compile_text("while True:\n    pass\n"), (), (), 150, 1000)
+        self.assertEqual(outcome, ("long",))
+        self.assertIs(has_yield(compile_text("def f():\n    yield 1\n")), True)
+
+    def test_reach(self):
+        self.assertEqual(
+            object_references(("inst", 20, (("a", ("ref", 7)), ("b", ("int", 1)), ("c", ("ref", 7))))), [20, 7, 7])
+        self.assertEqual(object_references(("class", "C", -1, ())), [])
+
+    def test_coding(self):
+        self.assertEqual(write_count(300), [172, 2])
+        self.assertEqual(write_integer(-3), [5])
+        self.assertEqual(write_string("hi"), [2, 72, 73])
+        self.assertEqual(write_value(("span", -3, 0)), [5, 5, 0])
+        self.assertEqual(
+            write_tree(("const", ("bool", True))),
+            [0, 2, 1, 5, 67, 79, 78, 83, 84, 0, 2, 1, 4, 66, 79, 79, 76, 4])
+        self.assertEqual(write_object(("tuple", (("none",), ("ref", 17)))), [1, 2, 0, 8, 17])
+
+    def test_decoding(self):
+        self.assertEqual(read_count([9, 172, 2, 5], 1), (300, 3))
+        self.assertRaises(BadNumbers, read_count, [172, 0], 0)
+        self.assertEqual(read_value([4, 2, 72, 73], 0), (("text", "hi"), 4))
+
+    def test_data(self):
+        heap = []
+        self.assertEqual(
+            (put_data(heap, [1, ("a",)]), heap),
+            (("ref", 1), [("tuple", (("text", "a"),)), ("list", (("int", 1), ("ref", 0)))]))
+
+    def test_runs(self):
+        text = "x = ask(2)\nprint(x + 1)\n"
+        run = begin(text, ("ask",))
+        self.assertEqual((run.go(1000)[0], run.request()), ("asking", ("ask", [2])))
+        run = begin(text, ("ask",))
+        run.go(1000)
+        other = run.twin()
+        run.answer(41)
+        self.assertEqual(
+            (run.go(1000)[0], run.take(), run.take(), other.state(), other.output),
+            ("over", "42\n", "", "asking", ""))
+        self.assertRaises(BadState, begin("x = 1\n").answer, 1)
 
     def test_points(self):
         a, b, c = ("name", "a"), ("name", "b"), ("name", "c")

@@ -30,6 +30,26 @@ FUNCTIONS = {
         "own_item(machine, a, i)", "own_put_item(machine, a, i, v)", "own_drop_item(machine, a, i)",
         "own_length(machine, a)", "own_text(machine, a, plain)", "own_iter(machine, a)"),
     "library": ("built(machine, name, args, named)", "plain_built(heap, name, args)"),
+    "machine": ("start(code, hosts)", "at_rest(machine)", "step(machine)"),
+    "calls": ("call(machine, f, args, named)", "meet(machine, frame)"),
+    "meaning": ("has_yield(code)", "run_plain(code, hosts, replies, fuel, left)"),
+    "data": (
+        "is_data(data)", "put_data(heap, data)", "take_data(heap, value)", "goes(heap, values)",
+        "same_data(one, other)"),
+    "reach": (
+        "object_references(item)", "frame_references(frame)", "control_references(control)", "reached(machine)",
+        "live_size(machine)", "renumber(machine)", "same_run(machine, other)"),
+    "coding": (
+        "write_count(n)", "write_integer(i)", "write_string(text)", "write_value(value)", "write_tree(tree)",
+        "write_object(item)", "write_frame(frame)", "write_control(control)"),
+    "decoding": (
+        "read_count(numbers, at)", "read_integer(numbers, at)", "read_string(numbers, at, *, most)",
+        "read_value(numbers, at)", "read_tree(numbers, at)", "read_object(numbers, at)", "read_frame(numbers, at)",
+        "read_control(numbers, at)"),
+    "holding": ("write_machine(machine, taken)", "read_machine(numbers)"),
+    "runs": (
+        "begin(text, hosts=(), *, limit=None)", "restore(numbers, *, limit=None)",
+        "replay(text, hosts, replies, steps)"),
     "generators": (
         "resume(machine, g, how, value)", "give(machine, value)", "iterate(machine, value)",
         "advance(machine, it)"),
@@ -38,6 +58,21 @@ FUNCTIONS = {
 CONSTANTS = {
     "core": (("CHARACTERS", str), ("CLASSES", tuple), ("BASES", tuple), ("BUILT", tuple)),
     "frames": (("FIELDS", dict),),
+    "fields": (("OBJECTS", dict), ("CONTROLS", dict)),
+}
+
+# The methods that are listed for a class are defined in the class itself.
+CLASSES = {
+    "meaning": ("Plain(hosts, replies, left)", (
+        "evaluate(self, e, env, fuel)", "execute(self, block, env, fuel)", "store(self, target, value, env, fuel)",
+        "apply(self, f, args, named, fuel)")),
+    "runs": ("Run", (
+        "set_limit(self, limit)", "state(self)", "size(self)", "where(self)", "go(self, many)", "request(self)",
+        "answer(self, data)", "refuse(self, kind, message)", "take(self)", "failure(self)", "twin(self)",
+        "hold(self)", "same_as(self, other)")),
+    "tapes": ("Tape(run)", (
+        "position(self)", "end(self)", "run(self)", "forward(self, many)", "back(self, many)", "answer(self, data)",
+        "refuse(self, kind, message)")),
 }
 
 
@@ -49,6 +84,17 @@ class Interface(unittest.TestCase):
                 function = getattr(module, row.split("(")[0])
                 self.assertEqual(function.__module__, "pyhold." + name)
                 self.assertEqual(function.__name__ + str(inspect.signature(function)), row)
+
+    def test_classes(self):
+        for name, (row, methods) in CLASSES.items():
+            module = importlib.import_module("pyhold." + name)
+            made = getattr(module, row.split("(")[0])
+            self.assertEqual(made.__module__, "pyhold." + name)
+            if "(" in row:
+                self.assertEqual(made.__name__ + str(inspect.signature(made)), row)
+            for method in methods:
+                function = vars(made)[method.split("(")[0]]
+                self.assertEqual(function.__name__ + str(inspect.signature(function)), method)
 
     def test_constants(self):
         for name, rows in CONSTANTS.items():

@@ -73,14 +73,6 @@ class HasYield(unittest.TestCase):
             self.assertIs(has_yield(compile_text(text)), False, text)
 
 
-class Examples(unittest.TestCase):
-    def test_examples(self):
-        outcome, _, out, used = run("a = 1 + 2\nprint(a)\n", left=1000)
-        self.assertEqual((outcome, out, used), (DONE, "3\n", 0))
-        outcome, _, _, _ = run("while True:\n    pass\n", left=1000)
-        self.assertEqual(outcome, LONG)
-
-
 class Fuel(unittest.TestCase):
     def test_none(self):
         made = plain(a=ONE)
