@@ -1,10 +1,10 @@
 """The methods of texts."""
 
-from pyhold.core import MOST_ENTRIES, VALUE_ERROR
+from pyhold.core import MOST_ENTRIES
 from pyhold.signatures import cannot_take
 from pyhold.values import TOO_LARGE, made_row, row_of
 
-EMPTY_TEXT = ("raise", VALUE_ERROR, "empty text")
+EMPTY_TEXT = ("raise", 11, "empty text")
 
 
 def text_outcome(heap, name, args):

@@ -27,7 +27,7 @@ OBJECT_KINDS = {
 NOTHING = ("none",)
 
 # The outcome of what has no value of its own.
-DONE = ("ok", NOTHING)
+DONE = ("ok", ("none",))
 
 # Refusals: the second item is the number of the class that is raised.
 INTEGER_TOO_LARGE = ("raise", 4, "integer too large")
