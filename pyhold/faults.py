@@ -19,3 +19,8 @@ def settle(machine, outcome):
         fail(machine, outcome[1], outcome[2])
     else:
         machine.control = ("value", outcome[1])
+
+
+def is_raise(control):
+    """Tells if a control is that an exception was raised."""
+    return control[0] == "leave" and control[1][:1] == ("raise",)

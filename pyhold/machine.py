@@ -5,6 +5,7 @@ from pyhold.core import start_heap
 from pyhold.defining import DEFINITION_RULES, meet_definition
 from pyhold.evaluating import PART_RULES, evaluate, meet_part
 from pyhold.executing import STATEMENT_RULES, execute, meet_statement
+from pyhold.faults import is_raise
 from pyhold.generators import give, resume
 from pyhold.looping import LOOP_RULES, meet_loop
 from pyhold.storing import STORE_RULES, meet_store, store
@@ -32,12 +33,11 @@ def start(code, hosts):
 
 def at_rest(machine):
     """Tells if a machine can make no step."""
-    control = machine.control
-    if control[0] == "ask":
+    if machine.control[0] == "ask":
         return True
     if machine.frames:
         return False
-    return control == ("done",) or (control[0] == "leave" and control[1][0] == "raise")
+    return machine.control == ("done",) or is_raise(machine.control)
 
 
 def step(machine):

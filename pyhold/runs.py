@@ -4,7 +4,7 @@ from pyhold.compiling import compile_text
 from pyhold.core import BUILT, CLASSES
 from pyhold.data import is_data, put_data, take_data
 from pyhold.errors import BadData, BadState
-from pyhold.faults import new_fault
+from pyhold.faults import is_raise, new_fault
 from pyhold.holding import read_machine, write_machine
 from pyhold.machine import Machine, start, step
 from pyhold.pairs import paired
@@ -50,7 +50,7 @@ class Run:
             return "asking"
         if not machine.frames and machine.control == ("done",):
             return "over"
-        if not machine.frames and machine.control[0] == "leave" and machine.control[1][0] == "raise":
+        if not machine.frames and is_raise(machine.control):
             return "failed"
         if self._limit is not None and live_size(machine) > self._limit:
             return "full"

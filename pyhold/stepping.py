@@ -2,7 +2,7 @@
 
 from pyhold.classes import is_kind
 from pyhold.core import STOP_ITERATION
-from pyhold.faults import fail
+from pyhold.faults import fail, is_raise
 
 
 def wait_for(machine, frame, tree, env):
@@ -22,9 +22,7 @@ def settle_done(machine, outcome):
 def has_stopped(machine):
     """Tells if the end of an iteration has come: that an instance of StopIteration was raised."""
     control = machine.control
-    if control[0] != "leave" or control[1][0] != "raise":
-        return False
-    return is_kind(machine.heap, control[1][1], STOP_ITERATION)
+    return is_raise(control) and is_kind(machine.heap, control[1][1], STOP_ITERATION)
 
 
 def forget_value(machine):

@@ -2,6 +2,7 @@
 
 import ast
 import builtins
+import functools
 import pathlib
 import re
 import unittest
@@ -33,10 +34,12 @@ STATEMENTS = (
 MODULE_LEVEL = (ast.FunctionDef, ast.ClassDef, ast.ImportFrom, ast.Assign, ast.Expr)
 
 
+@functools.cache
 def files():
     return sorted(PACKAGE.glob("*.py"))
 
 
+@functools.cache
 def trees():
     return [(path.name, ast.parse(path.read_text("utf-8"))) for path in files()]
 
