@@ -25,7 +25,7 @@ class Reader:
     def __init__(self, numbers, at):
         self.numbers = numbers
         self.at = at
-        # The numbers of objects that were read, each behind the index of its first digit.
+        # The numbers of objects that were read (or -1), each behind the index of its first digit.
         self.references = []
 
     def read_number(self, end):
@@ -84,8 +84,7 @@ class Reader:
         """The number of an object, which was written as a count that is greater by the shift."""
         first = self.at
         k = self.read_count() - shift
-        if k >= 0:
-            self.references.append((first, k))
+        self.references.append((first, k))
         return k
 
     def read_value(self):

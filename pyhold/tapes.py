@@ -3,16 +3,22 @@
 from pyhold.data import copied_data
 from pyhold.runs import check_count, give_reply
 
+# So many runs at places are kept at the most, and so many moves lie between them at first.
+MOST_MARKS = 32
+FIRST_DISTANCE = 256
+
 
 class Tape:
     """A run at a place that can be moved, and the replies that it was given at places."""
 
     def __init__(self, run):
-        self._first = run.twin()
         self._present = run.twin()
         self._place = 0
         self._end = 0
         self._replies = {}
+        # Pairs of a place and the run there, so that a way back need not begin at the place 0.
+        self._marks = [(0, run.twin())]
+        self._distance = FIRST_DISTANCE
 
     def position(self):
         """The place."""
@@ -38,8 +44,9 @@ class Tape:
         """Goes so many places back, but not ahead of the beginning; gives the place."""
         check_count(many)
         place = max(0, self._place - many)
-        self._present = self._first.twin()
-        self._place = 0
+        marks = [mark for mark in self._marks if mark[0] <= place]
+        self._place, nearest = marks[-1]
+        self._present = nearest.twin()
         while self._place < place:
             self._move()
         return place
@@ -60,6 +67,7 @@ class Tape:
         place = self._place
         self._replies = {at: other for at, other in self._replies.items() if at < place}
         self._replies[place] = reply
+        self._marks = [mark for mark in self._marks if mark[0] <= place]
         self._place = place + 1
         self._end = place + 1
 
@@ -71,4 +79,14 @@ class Tape:
             return False
         self._place += 1
         self._end = max(self._end, self._place)
+        self._mark()
         return True
+
+    def _mark(self):
+        """Keeps the run at the place, if it is far enough behind the others that are kept."""
+        if self._place < self._marks[-1][0] + self._distance:
+            return
+        self._marks.append((self._place, self._present.twin()))
+        if len(self._marks) > MOST_MARKS:
+            self._marks = self._marks[::2]
+            self._distance *= 2

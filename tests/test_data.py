@@ -49,6 +49,18 @@ class Data(unittest.TestCase):
             self.assertIs(is_data("a" + chr(k)), expected, k)
             self.assertIs(is_data({chr(k): 1}), expected, k)
 
+    def test_lists_and_dicts_are_no_keys(self):
+        class List(list):
+            __hash__ = object.__hash__
+
+        class Dict(dict):
+            __hash__ = object.__hash__
+
+        for key in (List(), Dict()):
+            self.assertIs(is_data([key]), True)
+            for data in ({key: 1}, {(key,): 1}, [{(1, (key,)): 1}]):
+                self.assertIs(is_data(data), False)
+
     def test_what_contains_itself(self):
         ring = [1]
         ring.append(ring)
@@ -158,6 +170,12 @@ class Take(unittest.TestCase):
         data = take_data(heap, ("ref", 1))
         self.assertEqual(data, [[1], [1]])
         self.assertIsNot(data[0], data[1])
+
+    def test_lists_and_dicts_are_no_keys(self):
+        heap = [("list", ()), ("dict", ()), ("tuple", (("ref", 0),)), ("tuple", (("ref", 1),))]
+        for k in range(4):
+            self.assertIs(goes(heap, (("ref", k),)), True)
+            self.refused(heap + [("dict", ((("ref", k), NONE),))], ("ref", 4))
 
     def test_what_contains_itself(self):
         one = ("int", 1)

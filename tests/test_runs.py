@@ -328,6 +328,14 @@ class Failures(unittest.TestCase):
             self.check(text.format(args), ("KeyError", ""))
 
 
+    def test_what_no_program_raises(self):
+        for value, name in ((("int", 5), "int"), (("ref", 7), "class"), (("text", "a"), "str")):
+            run = restore(Parts(control=("leave", ("raise", value))).numbers())
+            self.assertEqual((run.state(), run.failure()), ("failed", (name, "")))
+        run = restore(Parts(control=("leave", ())).numbers())
+        self.assertEqual((run.state(), run.failure()), ("ready", None))
+
+
 class Twins(unittest.TestCase):
     def test_an_equal_run(self):
         run = begin(PROGRAM, ("ask",), limit=900)
@@ -508,7 +516,8 @@ class Replay(unittest.TestCase):
 
     def test_wrong_steps(self):
         for steps in NO_COUNTS:
-            self.assertRaises(BadData, replay, "1 =", ("print",), [], steps)
+            self.assertRaises(BadData, replay, "a = 1\n", (), [], steps)
+            self.assertRaises(BadData, replay, "1 =", (), [], steps)
 
     def test_as_begin(self):
         self.assertRaises(BadData, replay, "1 =", ("print",), [], 5)

@@ -1,6 +1,7 @@
 """Tapes (r9)."""
 
 import inspect
+import random
 import unittest
 
 from pyhold.errors import BadData, BadState
@@ -156,6 +157,58 @@ class Moving(unittest.TestCase):
         self.assertEqual(tape.run().take(), "2\n")
         tape.back(100)
         self.assertEqual((tape.run().take(), tape.run().output), ("", "1\n"))
+
+
+class Long(unittest.TestCase):
+    """Tapes of so many moves that they keep runs at some places."""
+
+    TEXT = "n = 0\nwhile n < 2000:\n    n += 1\n    if n // 100 * 100 == n:\n        ask(n)\n        print(n)\n"
+
+    def test_back_and_forth(self):
+        tape = Tape(begin(self.TEXT, ("ask",)))
+        moves = 0
+        while True:
+            state, made = tape.forward(10 ** 6)
+            moves += made
+            if state == "over":
+                break
+            tape.answer(None)
+            moves += 1
+        self.assertEqual((tape.position(), tape.end()), (moves, moves))
+        self.assertGreater(moves, 256 * 64)
+        chance = random.Random(3)
+        for _ in range(60):
+            place = chance.choice((0, 1, moves, chance.randint(0, moves), chance.randint(0, 600)))
+            tape.back(tape.position())
+            tape.forward(chance.randint(place, moves))
+            self.assertEqual(tape.back(tape.position() - place), place)
+            self.assertEqual((tape.position(), tape.end()), (place, moves))
+            self.assertEqual(tape.run().hold(), self.run_at(place).hold())
+
+    def run_at(self, place):
+        run = begin(self.TEXT, ("ask",))
+        while place > 0:
+            if run.state() == "asking":
+                run.answer(None)
+                place -= 1
+            place -= run.go(place)[1]
+        return run
+
+    def test_another_reply_far_back(self):
+        tape = Tape(begin(self.TEXT.replace("ask(n)\n", "m = ask(n)\n").replace("print(n)", "print(n, m)"), ("ask",)))
+        places = []
+        for _ in range(12):
+            tape.forward(10 ** 6)
+            places.append(tape.position())
+            tape.answer("a")
+        tape.back(tape.position() - places[4])
+        tape.answer("b")
+        self.assertEqual(tape.end(), places[4] + 1)
+        self.assertEqual(tape.forward(10 ** 6)[0], "asking")
+        self.assertEqual(tape.position(), places[5])
+        tape.back(1)
+        tape.forward(1)
+        self.assertEqual(tape.run().output.split("\n")[3:], ["400 a", "500 b", ""])
 
 
 class Replies(unittest.TestCase):
