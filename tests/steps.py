@@ -5,7 +5,9 @@ from pyhold.core import start_heap
 from pyhold.data import put_data, take_data
 from pyhold.faults import new_fault
 from pyhold.machine import at_rest, start, step
+from pyhold.meaning import has_yield
 from pyhold.showing import show
+from tests.agreement import Agreement
 from tests.machines import fields, machine_of
 
 # The number of the scope that stands behind the objects at the beginning, and its object.
@@ -93,13 +95,15 @@ def told(machine):
     return machine.heap[k][1] + ": " + words
 
 
-class Programs:
-    """For a TestCase: what whole programs put out and how they end, by a machine."""
+class Programs(Agreement):
+    """For a TestCase: what whole programs put out and how they end, by a machine,
+    and, if they have no yield, by the plain meaning as well."""
 
     def gives(self, text, *lines, ends="done", hosts=(), replies=()):
         machine, _ = run_steps(text, hosts, replies)
         self.assertEqual(machine.out.split("\n")[:-1], list(lines), text)
         self.assertEqual(told(machine), ends, text)
+        self.check_plain(text, hosts, replies)
         return machine
 
     def asks(self, text, *names, ends="done"):
@@ -109,3 +113,15 @@ class Programs:
         machine, asked = run_steps(text, hosts, replies)
         self.assertEqual([row.split("(")[0] for row in asked], list(names), text)
         self.assertEqual(told(machine), ends, text)
+        self.check_plain(text, hosts, replies)
+
+    def check_plain(self, text, hosts, replies):
+        if has_yield(compile_text(text)) or any(isinstance(reply, list) for reply in replies):
+            return
+        plain = []
+        for reply in replies:
+            if isinstance(reply, Exception):
+                plain.append(("raise", str(reply)))
+            else:
+                plain.append(("value", put_data([], reply)))
+        self.agree(text, hosts, tuple(plain))

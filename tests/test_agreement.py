@@ -9,64 +9,13 @@ import unittest
 import unittest.mock
 import warnings
 
-from pyhold.compiling import compile_text
-from pyhold.faults import new_fault
-from pyhold.machine import Machine, at_rest, start, step
-from pyhold.meaning import has_yield, run_plain
-from pyhold.reach import same_run
+from tests.agreement import Agreement
 from tests.programs_at_random import Writer, as_python
 from tests.steps import run_steps
 
 REPLIES = (
     ("value", ("int", 1)), ("value", ("text", "ab")), ("raise", "no"), ("value", ("none",)), ("raise", ""),
     ("value", ("bool", False)), ("value", ("int", 2 ** 256 - 1)))
-
-
-def by_machine(code, hosts, replies):
-    """The machine at rest behind these replies, and how many were taken."""
-    machine = start(code, hosts)
-    used = 0
-    while True:
-        while step(machine):
-            pass
-        if machine.control[0] != "ask" or used == len(replies):
-            return machine, used
-        kind, what = replies[used]
-        used += 1
-        if kind == "value":
-            machine.control = ("value", what)
-        else:
-            machine.control = ("leave", ("raise", new_fault(machine.heap, 16, what)))
-
-
-def rest(control, heap):
-    """A machine that has nothing but a control and what can be reached from it and the module."""
-    return Machine(control, [], heap, "", 0, "", 1, 0)
-
-
-class Agreement:
-    """For a TestCase."""
-
-    def agree(self, text, hosts=("ask",), replies=(), left=20000):
-        """Tells if the plain meaning of a program was not too deep and not too long."""
-        code = compile_text(text)
-        self.assertIs(has_yield(code), False)
-        outcome, heap, out, used = run_plain(code, hosts, replies, 150, left)
-        if outcome[0] in ("deep", "long"):
-            return False
-        machine, taken = by_machine(code, hosts, replies)
-        self.assertTrue(at_rest(machine))
-        self.assertEqual((machine.out, taken), (out, used), text)
-        control = outcome
-        if outcome[0] == "raise":
-            control = ("leave", outcome)
-        self.assertIn(control[0], ("done", "leave", "ask"), text)
-        if control[0] == "ask":
-            self.assertEqual(used, len(replies))
-        else:
-            self.assertEqual((machine.frames, machine.active), ([], 0))
-        self.assertTrue(same_run(rest(control, heap), rest(machine.control, machine.heap)), text)
-        return True
 
 
 class AtRandom(Agreement, unittest.TestCase):
@@ -128,6 +77,21 @@ class Written(Agreement, unittest.TestCase):
                 "    print(e.args)\n", "try:\n    x\nexcept NameError:\n    class K:\n        raise\n",
                 "try:\n    x\nexcept 5:\n    pass\n", "try:\n    x\nexcept y:\n    pass\nexcept:\n    print(1)\n",
                 "class K:\n    def op_eq(self, o):\n        raise\ntry:\n    x\nexcept:\n    K() == 1\n"):
+            self.assertTrue(self.agree(text), text)
+
+    def test_methods(self):
+        for text in (
+                "class K:\n    def op_init(self):\n        x\nK()\n", "class K:\n    def op_init(self):\n        ask()\nK()\n",
+                "class K:\n    def op_call(self, a, b=2):\n        return (self, a, b)\nprint(K()(1)[1:], K()(1, b=3)[1:])\nK()()\n",
+                "class K:\n    pass\nk = K()\nk.op_call = print\nk(1)\n",
+                "class K:\n    def op_repr(self):\n        return 'k'\nprint(repr(K()), str(K()), K(), [K()], str(), repr(1))\n",
+                "class K:\n    def op_str(self):\n        return 'k'\nprint(repr(K()), str(K()), K(), [K()])\n",
+                "class K:\n    def op_len(self):\n        return 3\nprint(len(K()), not K(), K() and 1)\n",
+                "class K:\n    def op_put(self, k, v):\n        print(k, v)\n        return 1\n    def op_drop(self, k):\n"
+                "        x\nk = K()\nk[1], k[2] = 3, 4\ndel k[5]\n",
+                "class K:\n    def op_neg(self):\n        return 1\n    def op_in(self, k):\n        return k == 1\n"
+                "print(-K(), 1 in K(), 2 not in K(), 1 not in K())\nK() in 1\n",
+                "class K:\n    def f(self, a):\n        return a\nf = K().f\nprint(f(1), f(a=2), K.f(1, 2))\nf(1, 2)\n"):
             self.assertTrue(self.agree(text), text)
 
     def test_names(self):

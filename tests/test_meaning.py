@@ -119,6 +119,18 @@ class Fuel(unittest.TestCase):
         made.apply(("built", "len"), (("text", "a"),), (), 1)
         self.assertEqual(made.left, 6)
 
+    def test_each_hands_one_less_on(self):
+        made = plain()
+        made.execute(compile_text("def f():\n    pass\n"), 0, 50)
+        f = variable(made.heap, "f")
+        self.assertEqual(made.apply(f, (), (), 2), ("value", NONE))
+        self.assertEqual(made.apply(f, (), (), 1), DEEP)
+        self.assertEqual(made.execute((("do", 1, num(1)),), 0, 2), DONE)
+        self.assertEqual(made.execute((("do", 1, num(1)),), 0, 1), DEEP)
+        self.assertEqual(made.execute((("if", 1, num(1), (("pass", 1),), ()),), 0, 2), DONE)
+        self.assertEqual(made.evaluate(("not", num(1)), 0, 2), ("value", ("bool", False)))
+        self.assertEqual(made.evaluate(("not", num(1)), 0, 1), DEEP)
+
     def test_levels(self):
         deep = num(1)
         for _ in range(10):
