@@ -60,6 +60,21 @@ class Written(Agreement, unittest.TestCase):
                 "n = 0\nclass K:\n    def op_next(self):\n        global n\n        n += 1\n        return n\nlist(K())\n"):
             self.assertTrue(self.agree(text), text)
 
+    def test_parts_that_raise(self):
+        for text in (
+                "def f(a=1, b=x):\n    pass\n", "class K(x):\n    pass\n", "while x:\n    pass\n", "if x:\n    pass\n",
+                "for k in x:\n    pass\n", "def f():\n    return x\nf()\n", "raise x\n", "del x[1]\n", "a = [1]\ndel a[x]\n",
+                "x.a = 1\n", "a = [1]\na[x] = 1\n", "x += 1\n", "a = 1\na += x\n", "raise KeyError(x)\n",
+                "try:\n    1 // 0\nexcept x:\n    pass\n", "try:\n    pass\nfinally:\n    x\n", "next(5)\n", "x[1:2]\n",
+                "(1)[x:]\n", "'a'[:x]\n", "-x\n", "not x\n", "x.a\n", "len(x)\n", "len(a=x)\n", "{1: x}\n", "{x: 1}\n",
+                "class K:\n    def op_next(self):\n        raise KeyError(1)\nlist(K())\n",
+                "class K:\n    def op_next(self):\n        raise KeyError(1)\nnext(K(), 2)\n",
+                "class K:\n    def op_next(self):\n        raise KeyError(1)\nfor k in K():\n    pass\n",
+                "class K:\n    def op_iter(self):\n        raise StopIteration\nlist(K())\n",
+                "class K:\n    def op_iter(self):\n        raise StopIteration\nfor k in K():\n    pass\n"):
+            self.assertTrue(self.agree(text), text)
+            self.assertTrue(self.agree(re.sub(r"\bx\b(?! \+=)", "ask()", text)), text)
+
     def test_bounds(self):
         for text in (
                 "a = 1\nwhile True:\n    a = a * 7\n", "a = 'x'\nwhile True:\n    a = a + a\n", "print('x' * 1000, 1)\n",

@@ -111,6 +111,13 @@ class Fuel(unittest.TestCase):
         self.assertEqual(run("k = 0\nwhile k < 3:\n    k += 1\n", left=9)[0], DONE)
         # A statement, two calls, and three elements.
         self.assertEqual(run("list(iter((1, 2, 3)))\n", left=8)[0], DONE)
+        self.assertEqual(run("pass\n", left=1)[0], DONE)
+
+    def test_what_is_not_enough(self):
+        # Statements, calls, rounds and elements take one each.
+        for text in ("pass\n" * 21, "list(iter(range(20)))\n", "for k in range(15):\n    pass\n",
+                     "k = 0\nwhile k < 10:\n    k += 1\n", "".join(f"len('{k}')\n" for k in range(11))):
+            self.assertEqual(run(text, left=20)[0], LONG, text)
 
     def test_each_takes_one(self):
         made = plain(left=10)
@@ -308,7 +315,9 @@ class Calls(unittest.TestCase):
         made.active = 59
         self.assertEqual(made.apply(f, (ONE,), (), 50), ("value", ONE))
         outcome = made.apply(f, (TWO,), (), 50)
-        self.assertEqual(made.heap[outcome[1][1]][1], 14)
+        self.assertEqual(outcome, ("raise", ("ref", len(made.heap) - 1)))
+        self.assertEqual(made.heap[-2:], [
+            ("tuple", (("text", "too many calls"),)), ("inst", 14, (("args", ("ref", len(made.heap) - 2)),))])
         self.assertEqual(made.active, 59)
 
     def test_replies(self):
