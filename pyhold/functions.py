@@ -1,7 +1,7 @@
 """The built-in functions, without methods of a program's own."""
 
 from pyhold.classes import is_kind
-from pyhold.core import INTEGER_END, MOST_ENTRIES, OVERFLOW_ERROR, VALUE_ERROR
+from pyhold.core import INTEGER_END, MOST_ENTRIES, VALUE_ERROR
 from pyhold.showing import show, words
 from pyhold.signatures import cannot_take
 from pyhold.values import INTEGER_TOO_LARGE, TOO_LARGE, is_number, length, made_row, row_of, sort_of

@@ -1,7 +1,7 @@
 import unittest
 
 from pyhold.core import CHARACTERS
-from pyhold.words import quoted, split
+from pyhold.words import is_name, quoted, split
 from tests.helpers import fault_of
 
 KEYWORDS = (
@@ -18,6 +18,15 @@ def kinds(text):
 def marks(text):
     """The tokens of one line as pairs, without its end."""
     return [(kind, value) for kind, value, _ in split(text)[:-2]]
+
+
+class Names(unittest.TestCase):
+    def test_each_text(self):
+        for word in ("a", "_", "a1", "_1", "A_b", "x" * 30, "print", "True_", "ifs"):
+            self.assertIs(is_name(word), True)
+            self.assertEqual(marks(word), [("name", word)])
+        for word in KEYWORDS + ["", "1", "1a", "a b", "a-b", " a", "a ", "a.b", "x" * 31, "\u00e9", "a\u00e9", "\u0661", "a\n"]:
+            self.assertIs(is_name(word), False, word)
 
 
 class Characters(unittest.TestCase):
