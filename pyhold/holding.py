@@ -5,7 +5,7 @@ from pyhold.core import FIRST_OBJECTS, MOST_CALLS, MOST_OUTPUT
 from pyhold.errors import BadNumbers, TooLong
 from pyhold.machine import Machine
 from pyhold.reach import renumber
-from pyhold.reader import Reader
+from pyhold.reader import NumberReader
 
 # The number with which each held run begins, and the place of what follows it.
 MARK = 1
@@ -27,7 +27,7 @@ def read_machine(numbers):
     """The pair of a new machine, from a held run, and the count of characters taken."""
     if len(numbers) > MOST_NUMBERS:
         raise TooLong()
-    reader = Reader(numbers, 0)
+    reader = NumberReader(numbers, 0)
     reader.read_mark(MARK)
     taken = reader.read_count()
     machine, place = _read_fields(reader)

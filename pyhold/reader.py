@@ -19,7 +19,7 @@ SIGNALS = ("", "break", "continue", "return", "raise")
 TREES = 5
 
 
-class Reader:
+class NumberReader:
     """A list of numbers, and the index of the next one that is read."""
 
     def __init__(self, numbers, at):
