@@ -1,16 +1,20 @@
 """Held runs: how they are written, and the rules of reading with their places (h9 to h11)."""
 
+import random
 import unittest
 
 from pyhold.coding import write_control, write_count, write_frame, write_object, write_string, write_value
 from pyhold.core import start_heap
 from pyhold.errors import BadNumbers, TooLong
+from pyhold.fields import CONTROLS
 from pyhold.frames import FIELDS
 from pyhold.holding import read_machine, write_machine
 from pyhold.machine import Machine, step
 from pyhold.reach import renumber, same_run
 from tests.heaps import NONE, YES, texts
 from tests.machines import fields
+from tests.plain_reading import plain_place
+from tests.samples import samples as samples_of
 from tests.samples import some_machines, stepped
 from tests.test_reach import shuffled
 
@@ -322,6 +326,58 @@ class OtherRules(unittest.TestCase):
         self.assertEqual(place_of(parts.numbers()), 1)
         parts = Parts(heap + [("list", ())], taken=3)
         self.assertEqual(place_of(parts.numbers()), parts.place("heap"))
+
+
+class AtRandom(unittest.TestCase):
+    """Held runs that were changed, against the rules told once more."""
+
+    def check(self, numbers):
+        expected = plain_place(numbers)
+        found = place_of(numbers)
+        if expected is not None:
+            self.assertEqual(found, expected, numbers)
+        elif found is not None:
+            # The seventh rule: what was written of the machine is another list.
+            self.assertTrue(0 < found <= len(numbers))
+        else:
+            machine, taken = read_machine(numbers)
+            self.assertEqual(write_machine(machine, taken), numbers)
+
+    def changed(self, chance, numbers):
+        numbers = list(numbers)
+        for _ in range(chance.choice((1, 1, 1, 2, 3))):
+            at = chance.randrange(len(numbers))
+            number = chance.choice((0, 1, 2, 8, 9, 94, 95, 127, 128, 200, 255, 256, -1, chance.randint(0, 20)))
+            kind = chance.randint(0, 5)
+            if kind <= 2:
+                numbers[at] = number
+            elif kind == 3:
+                numbers.insert(at, number)
+            elif kind == 4:
+                del numbers[at]
+            else:
+                numbers[at:] = numbers[at:at + chance.randint(0, 50)]
+            if not numbers:
+                break
+        return numbers
+
+    def test_changed_lists(self):
+        chance = random.Random(7)
+        for machine in some_machines()[::2]:
+            numbers = write_machine(machine, len(machine.out) // 3)
+            self.assertIsNone(plain_place(numbers))
+            for _ in range(60):
+                self.check(self.changed(chance, numbers))
+
+    def test_small_lists(self):
+        chance = random.Random(8)
+        samples = [Parts(control=control, frames=[frame]).numbers() for control, _ in samples_of(CONTROLS)
+                   for frame, _ in samples_of(FIELDS)[::7]]
+        for numbers in samples:
+            self.check(numbers)
+            for _ in range(12):
+                place = Parts().place("control")
+                self.check(numbers[:place] + self.changed(chance, numbers[place:]))
 
 
 class Long(unittest.TestCase):
