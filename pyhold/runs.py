@@ -79,8 +79,8 @@ class Run:
         """The function of the host that is asked for, and the data of its arguments, or None."""
         if self.state() != "asking":
             return None
-        _, name, args = self._machine.control
-        return (name, [take_data(self._machine.heap, value) for value in args])
+        _, name, values = self._machine.control
+        return (name, [take_data(self._machine.heap, value) for value in values])
 
     def answer(self, data):
         """Lets the function of the host give data."""
